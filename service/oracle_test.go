@@ -61,10 +61,17 @@ func oracleSlots(c api.Config, weights map[string]int) []string {
 	if total == 0 {
 		return nil
 	}
-	if c.Alg == api.Maglev {
+	switch c.Alg {
+	case api.Maglev:
 		return oracleMaglev(c, names, weights, total)
+	case api.Rendezvous:
+		return oracleRendezvous(c, names, weights)
 	}
-	return oracleRendezvous(c, names, weights)
+	var slots []string
+	for _, p := range oraclePoints(c, weights) {
+		slots = append(slots, p.id)
+	}
+	return slots
 }
 
 func oracleMaglev(c api.Config, names []string, weights map[string]int, total int) []string {
@@ -122,4 +129,53 @@ func oracleRendezvous(c api.Config, names []string, weights map[string]int) []st
 		slots = append(slots, bids[0].id)
 	}
 	return slots
+}
+
+type oraclePoint struct {
+	point uint64
+	id    string
+}
+
+func oraclePoints(c api.Config, weights map[string]int) []oraclePoint {
+	letter, each := "r", c.Points
+	if c.Alg == api.Probes {
+		letter, each = "m", 1
+	}
+	var l []oraclePoint
+	for id, w := range weights {
+		for k := range each * w {
+			l = append(l, oraclePoint{oracleHash(c.Key, letter, []int{k}, id), id})
+		}
+	}
+	sort.Slice(l, func(i, j int) bool {
+		if l[i].point != l[j].point {
+			return l[i].point < l[j].point
+		}
+		return l[i].id < l[j].id
+	})
+	return l
+}
+
+// oracleOwner asks nobody for an order of points: the first one that is not below a hash, going round, is the one with the least distance.
+func oracleOwner(c api.Config, slots []string, points []oraclePoint, key string) string {
+	var hashes []uint64
+	switch c.Alg {
+	case api.Maglev, api.Rendezvous:
+		return slots[oracleHash(c.Key, "k", nil, key)%uint64(c.Slots)]
+	case api.Ring:
+		hashes = append(hashes, oracleHash(c.Key, "k", nil, key))
+	case api.Probes:
+		for i := range c.Probes {
+			hashes = append(hashes, oracleHash(c.Key, "p", []int{i}, key))
+		}
+	}
+	owner, least := "", uint64(0)
+	for _, h := range hashes {
+		for _, p := range points {
+			if owner == "" || p.point-h < least {
+				owner, least = p.id, p.point-h
+			}
+		}
+	}
+	return owner
 }

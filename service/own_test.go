@@ -28,7 +28,7 @@ func spoiled(l []string) bool {
 }
 
 func TestListsAreTheCallers(t *testing.T) {
-	for _, alg := range []int{api.Maglev, api.Rendezvous} {
+	for _, alg := range algorithms {
 		s := pooled(t, config(alg, 13), backends("b a c", 1, 2, 3)...)
 		want := tell(s)
 		list, other := s.Slots(), s.Slots()
@@ -61,14 +61,15 @@ func TestListsAreTheCallers(t *testing.T) {
 func TestServicesAreApart(t *testing.T) {
 	other := config(api.Maglev, 13)
 	other.Key = "fedcba9876543210"
-	configs := []api.Config{config(api.Maglev, 13), config(api.Maglev, 13), other, config(api.Rendezvous, 13), config(api.Maglev, 211), config(api.Ring, 13)}
+	configs := []api.Config{config(api.Maglev, 13), config(api.Maglev, 13), other, config(api.Rendezvous, 13), config(api.Maglev, 211), config(api.Ring, 13), config(api.Probes, 13)}
 	var side, alone []*service.Service
 	for _, c := range configs {
 		side = append(side, start(t, c))
 	}
 	pools := [][]api.Backend{
 		backends("a b c d", 1, 2, 3, 4), backends("a x", 6, 1), backends("a b c d", 1, 2, 3, 4),
-		backends("d c b", 1, 1, 1), backends("a b c d e f g h", 1, 2, 3, 4, 5, 6, 1, 2), backends("a", 1),
+		backends("d c b", 1, 1, 1), backends("a b c d e f g h", 1, 2, 3, 4, 5, 6, 1, 2), backends("c a b", 3, 1, 2),
+		backends("c a b", 3, 1, 2),
 	}
 	for i := range api.MaxPool {
 		for j, s := range side {

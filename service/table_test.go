@@ -118,25 +118,31 @@ func TestNamesOfAnyBytes(t *testing.T) {
 	weights := []int{1, 2, 1, 3, 1, 2, 1, 1}
 	alike := []int{1, 1, 1, 1, 1, 1, 1, 1}
 	for _, c := range []struct {
-		alg, slots int
-		weights    []int
-		want       []int
+		alg, slots, points int
+		weights            []int
+		want               []int
 	}{
-		{api.Maglev, 23, weights, []int{5, 6, 3, 3, 3, 7, 3, 5, 6, 7, 0, 5, 3, 1, 1, 1, 1, 5, 2, 0, 2, 4, 4}},
-		{api.Maglev, 3, weights, []int{5, 3, 1}},
-		{api.Maglev, 3, alike, []int{0, 2, 1}},
-		{api.Rendezvous, 23, weights, []int{3, 1, 3, 2, 7, 1, 3, 1, 3, 3, 6, 7, 0, 6, 1, 1, 3, 5, 5, 6, 5, 3, 5}},
+		{api.Maglev, 23, 1, weights, []int{5, 6, 3, 3, 3, 7, 3, 5, 6, 7, 0, 5, 3, 1, 1, 1, 1, 5, 2, 0, 2, 4, 4}},
+		{api.Maglev, 3, 1, weights, []int{5, 3, 1}},
+		{api.Maglev, 3, 1, alike, []int{0, 2, 1}},
+		{api.Rendezvous, 23, 1, weights, []int{3, 1, 3, 2, 7, 1, 3, 1, 3, 3, 6, 7, 0, 6, 1, 1, 3, 5, 5, 6, 5, 3, 5}},
+		{api.Ring, 3, 2, weights, []int{7, 5, 6, 5, 3, 5, 5, 4, 1, 3, 3, 7, 3, 1, 0, 2, 0, 3, 6, 3, 1, 4, 1, 2}},
+		{api.Probes, 3, 2, weights, []int{1, 5, 3, 1, 5, 7, 2, 4, 0, 6, 3, 3}},
 	} {
 		for turn := range rising {
-			s := start(t, config(c.alg, c.slots))
+			k := config(c.alg, c.slots)
+			k.Points = c.points
+			s := start(t, k)
 			for i := range rising {
 				place := (turn + 3*i) % len(rising)
 				expect(t, "Add", s.Add(rising[place], c.weights[place]), api.OK)
 			}
-			for slot, id := range s.Slots() {
-				if id != rising[c.want[slot]] {
-					t.Errorf("P5: algorithm %d, slot %d: %q, want %q", c.alg, slot, id, rising[c.want[slot]])
-				}
+			var want []string
+			for _, place := range c.want {
+				want = append(want, rising[place])
+			}
+			if got := s.Slots(); !reflect.DeepEqual(got, want) {
+				t.Errorf("P5: algorithm %d: %q, want %q", c.alg, got, want)
 			}
 		}
 	}
@@ -177,7 +183,7 @@ func TestEqualHashesOfRendezvous(t *testing.T) {
 }
 
 func TestTableHangsOnThePoolAlone(t *testing.T) {
-	for _, alg := range []int{api.Maglev, api.Rendezvous} {
+	for _, alg := range algorithms {
 		c := config(alg, 31)
 		want := pooled(t, c, backends("a b c d", 2, 5, 0, 1)...).Slots()
 		for name, s := range map[string]*service.Service{
@@ -256,7 +262,7 @@ func (w *walker) step(t *testing.T, r *rand.Rand) {
 
 func (w *walker) check(t *testing.T) {
 	t.Helper()
-	slots := oracleSlots(w.c, w.weights)
+	slots, points := oracleSlots(w.c, w.weights), oraclePoints(w.c, w.weights)
 	if w.gen == 0 {
 		slots = nil
 	}
@@ -272,7 +278,7 @@ func (w *walker) check(t *testing.T) {
 		case slots == nil:
 			want = api.ErrNoBackend
 		default:
-			owner = slots[oracleHash(w.c.Key, "k", nil, k)%uint64(w.c.Slots)]
+			owner = oracleOwner(w.c, slots, points, k)
 		}
 		if id, e := w.s.Local(k); id != owner || e != want {
 			t.Fatalf("P7: %+v, %v: key %.20q: %q, %v, want %q, %v", w.c, w.weights, k, id, e, owner, want)
@@ -282,11 +288,13 @@ func (w *walker) check(t *testing.T) {
 
 func TestWalksBesideTheOracle(t *testing.T) {
 	r := rand.New(rand.NewSource(1))
-	for i := range 40 {
+	for i := range 80 {
 		key := make([]byte, api.KeyLen)
 		r.Read(key)
-		c := config([]int{api.Maglev, api.Rendezvous}[i%2], []int{3, 5, 7, 13, 61, 199, 211}[r.Intn(7)])
+		c := config(algorithms[i%4], []int{3, 5, 7, 13, 61, 199, 211}[r.Intn(7)])
 		c.Key = string(key)
+		c.Points = 1 + r.Intn(api.MaxPoints)
+		c.Probes = 1 + r.Intn(api.MaxProbes)
 		w := &walker{s: start(t, c), c: c, weights: map[string]int{}}
 		for range 60 {
 			w.check(t)

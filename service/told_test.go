@@ -9,7 +9,8 @@ import (
 
 func TestDropChangesNothing(t *testing.T) {
 	for _, alg := range algorithms {
-		s, twin := start(t, config(alg, 13)), start(t, config(alg, 13))
+		c := api.Config{Alg: alg, Slots: 13, Points: 2, Probes: 3, Key: usualKey, Formats: 3}
+		s, twin := start(t, c), start(t, c)
 		s.Drop()
 		expectTold(t, "P6: Drop ahead of the first change", tell(s), tell(twin))
 		if s.Gen() != 0 || s.Slots() != nil {
@@ -31,6 +32,32 @@ func TestDropChangesNothing(t *testing.T) {
 	}
 }
 
+// Every way to a pool, with Drop at any place of it, comes to one table.
+func TestDropOnTheWay(t *testing.T) {
+	for _, alg := range algorithms {
+		c := api.Config{Alg: alg, Slots: 31, Points: 3, Probes: 5, Key: usualKey, Formats: 3}
+		want := tell(pooled(t, c, backends("a b c d e f", 2, 5, 0, 1, 6, 3)...))
+		for place := range 7 {
+			s := start(t, c)
+			for i, b := range backends("f c a e b d", 3, 0, 2, 6, 5, 1) {
+				if i == place {
+					s.Drop()
+				}
+				expect(t, "Add", s.Add(b.ID, b.Weight), api.OK)
+			}
+			expectTold(t, "P6: Drop on the way", tell(s), want)
+			s.Drop()
+			expectTold(t, "P6: Drop at the end", tell(s), want)
+			expect(t, "Remove", s.Remove("e"), api.OK)
+			s.Drop()
+			expect(t, "Add", s.Add("e", 6), api.OK)
+			want.Gen += 2
+			expectTold(t, "P6: Drop between going and coming", tell(s), want)
+			want.Gen -= 2
+		}
+	}
+}
+
 func TestAskingChangesNothing(t *testing.T) {
 	s := pooled(t, config(api.Maglev, 13), backends("a b", 1, 2)...)
 	want := tell(s)
@@ -47,19 +74,31 @@ func TestKeys(t *testing.T) {
 	for n := 33; n >= 0; n-- {
 		lengths = append([]int{n}, lengths...)
 	}
-	for alg, want := range map[int]string{
-		api.Maglev:     "fffbcdeaeefebedfgeabehdafbecdfefdfcfcec",
-		api.Rendezvous: "hfecefcfffcdffcfffeffgehfaebfccffdgedeb",
+	for _, c := range []struct {
+		alg, points, probes int
+		want                string
+	}{
+		{api.Maglev, 1, 1, "fffbcdeaeefebedfgeabehdafbecdfefdfcfcec"},
+		{api.Rendezvous, 1, 1, "hfecefcfffcdffcfffeffgehfaebfccffdgedeb"},
+		{api.Ring, 1, 1, "gedffaehcedacbcffcdfchdfhdgghfbhhfhfdfd"},
+		{api.Ring, 2, 1, "gedfeeffcfdecbcffcdhcfafcdgghfhfcffffhb"},
+		{api.Ring, 3, 1, "geddeeffcfdhfbcddcdhcfaecdgghchfcefdfhb"},
+		{api.Probes, 1, 1, "ccfbeheehdeebfheeedfhefffefcdfhhcdhfcee"},
+		{api.Probes, 1, 2, "ccfhcgeefdfehfaeccdehffbfbecdfchcdeecbe"},
+		{api.Probes, 1, 3, "ecfhcgeeddffhfabcccfhffbfbcfdcdhcdfedbe"},
+		{api.Probes, 1, 4, "ecfhcgecddfahfaceccffedbfccfdccfcdfeghe"},
+		{api.Probes, 1, 5, "bdfhchecddfadbaceecffehffcbfdcgfcbfeghf"},
 	} {
-		s := pooled(t, config(alg, 211), backends("a b c d e f g h", 1, 2, 3, 4, 5, 6, 1, 2)...)
+		k := api.Config{Alg: c.alg, Slots: 211, Points: c.points, Probes: c.probes, Key: usualKey, Formats: 3}
+		s := pooled(t, k, backends("a b c d e f g h", 1, 2, 3, 4, 5, 6, 1, 2)...)
 		got := ""
 		for _, n := range lengths {
 			id, e := s.Local(strings.Repeat("x", n))
 			expect(t, "Local", e, api.OK)
 			got += id
 		}
-		if got != want {
-			t.Errorf("P7: algorithm %d: keys of many lengths: %s, want %s", alg, got, want)
+		if got != c.want {
+			t.Errorf("P7: algorithm %d: keys of many lengths: %s, want %s", c.alg, got, c.want)
 		}
 	}
 }
@@ -78,7 +117,7 @@ func TestKeysOfAnyBytes(t *testing.T) {
 }
 
 func TestOwnerWithoutATable(t *testing.T) {
-	for _, alg := range []int{api.Maglev, api.Rendezvous} {
+	for _, alg := range algorithms {
 		s := start(t, config(alg, 7))
 		local := func(what string, want string, wantErr api.Errno) {
 			t.Helper()

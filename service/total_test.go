@@ -30,7 +30,9 @@ func TestEveryNewEnds(t *testing.T) {
 func TestEveryCallEnds(t *testing.T) {
 	for _, alg := range algorithms {
 		for _, slots := range []int{3, 13, 211} {
-			s := start(t, config(alg, slots))
+			c := config(alg, slots)
+			c.Points, c.Probes = api.MaxPoints, api.MaxProbes
+			s := start(t, c)
 			for range 2 {
 				callAll(s)
 			}

@@ -11,10 +11,10 @@ type way struct {
 	offset, skip int
 }
 
-func maglev(c api.Config, backends []api.Backend) []int {
-	var owners []int
+func maglev(c api.Config, backends []api.Backend) []Entry {
+	var slots []Entry
 	for s := 0; s < c.Slots; s++ {
-		owners = append(owners, -1)
+		slots = append(slots, Entry{Owner: -1})
 	}
 	ways := waysOf(c, backends)
 	shares := sharesOf(c.Slots, backends)
@@ -24,13 +24,13 @@ func maglev(c api.Config, backends []api.Backend) []int {
 			if round >= share {
 				continue
 			}
-			slot := firstFree(owners, ways[i])
+			slot := firstFree(slots, ways[i])
 			if slot >= 0 {
-				owners[slot] = i
+				slots[slot].Owner = i
 			}
 		}
 	}
-	return owners
+	return slots
 }
 
 func waysOf(c api.Config, backends []api.Backend) []way {
@@ -44,10 +44,10 @@ func waysOf(c api.Config, backends []api.Backend) []way {
 }
 
 // firstFree tells the first free slot on a way; -1: there is none.
-func firstFree(owners []int, w way) int {
-	for i := range owners {
-		slot := (w.offset + i*w.skip) % len(owners)
-		if owners[slot] < 0 {
+func firstFree(slots []Entry, w way) int {
+	for i := range slots {
+		slot := (w.offset + i*w.skip) % len(slots)
+		if slots[slot].Owner < 0 {
 			return slot
 		}
 	}

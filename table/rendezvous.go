@@ -5,12 +5,12 @@ import (
 	"spread/siphash"
 )
 
-func rendezvous(c api.Config, backends []api.Backend) []int {
-	var owners []int
+func rendezvous(c api.Config, backends []api.Backend) []Entry {
+	var slots []Entry
 	for s := 0; s < c.Slots; s++ {
-		owners = append(owners, winner(c.Key, s, backends))
+		slots = append(slots, Entry{Owner: winner(c.Key, s, backends)})
 	}
-	return owners
+	return slots
 }
 
 // winner tells the place of the backend with a slot's greatest hash. It goes by names and lets only a greater hash win, so that the first of equal ones stays.

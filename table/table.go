@@ -7,11 +7,17 @@ import (
 	"spread/siphash"
 )
 
-// Table is a pool, and the owners of the table's entries as places in that pool.
+// Entry is a slot or a point of a table: whose it is, as a place in the pool, and where the point lies (of slots 0).
+type Entry struct {
+	Point uint64
+	Owner int
+}
+
+// Table is a pool, and the table's entries in their order.
 type Table struct {
-	Config api.Config
-	Pool   []api.Backend
-	Owners []int
+	Config  api.Config
+	Pool    []api.Backend
+	Entries []Entry
 }
 
 // Make makes the table of a pool (P5).
@@ -23,33 +29,48 @@ func Make(c api.Config, backends []api.Backend) Table {
 	}
 	switch c.Alg {
 	case api.Maglev:
-		t.Owners = maglev(c, backends)
+		t.Entries = maglev(c, backends)
+	case api.Ring:
+		t.Entries = points(c.Key, 'r', c.Points, backends)
 	case api.Rendezvous:
-		t.Owners = rendezvous(c, backends)
+		t.Entries = rendezvous(c, backends)
+	case api.Probes:
+		t.Entries = points(c.Key, 'm', 1, backends)
 	}
 	return t
 }
 
 // Names tells the names of the entries' owners, as a list that is the caller's.
 func (t *Table) Names() []string {
-	if len(t.Owners) == 0 {
+	if len(t.Entries) == 0 {
 		return nil
 	}
-	names := make([]string, 0, len(t.Owners))
-	for _, place := range t.Owners {
-		names = append(names, t.name(place))
+	names := make([]string, 0, len(t.Entries))
+	for _, e := range t.Entries {
+		names = append(names, t.name(e.Owner))
 	}
 	return names
 }
 
 // Owner tells whose a key is (P7).
 func (t *Table) Owner(key string) (string, api.Errno) {
-	if len(t.Owners) == 0 {
+	place := t.find(key)
+	if place < 0 || place >= len(t.Entries) {
 		return "", api.ErrNoBackend
 	}
+	return t.name(t.Entries[place].Owner), api.OK
+}
+
+// find tells the place of the entry that a key comes to; without entries, one that lies outside.
+func (t *Table) find(key string) int {
+	if t.Config.Alg == api.Probes {
+		return probed(t.Config, t.Entries, key)
+	}
 	h := siphash.Hash(t.Config.Key, 'k', nil, key)
-	slot := rest(h, len(t.Owners))
-	return t.name(t.Owners[slot]), api.OK
+	if t.Config.Alg == api.Ring {
+		return next(t.Entries, h)
+	}
+	return rest(h, len(t.Entries))
 }
 
 func (t *Table) name(place int) string {
