@@ -1,7 +1,26 @@
 // Package pool works on lists of backends that are kept by names, rising. Every list it answers is a new one.
 package pool
 
-import "spread/api"
+import (
+	"spread/api"
+	"spread/rules"
+)
+
+// Right tells whether a list is a pool: no more backends than may be, of right names and weights, the names rising.
+func Right(backends []api.Backend) bool {
+	if len(backends) > api.MaxPool {
+		return false
+	}
+	for i, b := range backends {
+		if !rules.Name(b.ID) || !rules.Weight(b.Weight) {
+			return false
+		}
+		if i > 0 && backends[i-1].ID >= b.ID {
+			return false
+		}
+	}
+	return true
+}
 
 // Place tells where in the pool a name stands; -1: nowhere.
 func Place(backends []api.Backend, id string) int {

@@ -1,16 +1,20 @@
-// Package rules tells which configurations, names and weights are right.
+// Package rules tells which configurations, names, weights, formats and generations are right.
 package rules
 
 import "spread/api"
 
 // Config tells whether a configuration is one (P3).
 func Config(c api.Config) bool {
+	return TableConfig(c) && within(c.Formats, 1, 3)
+}
+
+// TableConfig tells whether a configuration is one as far as tables hang on it: with any Formats.
+func TableConfig(c api.Config) bool {
 	return within(c.Alg, api.Maglev, api.Probes) &&
 		within(c.Slots, 3, api.MaxSlots) && prime(c.Slots) &&
 		within(c.Points, 1, api.MaxPoints) &&
 		within(c.Probes, 1, api.MaxProbes) &&
-		len(c.Key) == api.KeyLen &&
-		within(c.Formats, 1, 3)
+		len(c.Key) == api.KeyLen
 }
 
 // Name tells whether a backend may be called so.
@@ -21,6 +25,16 @@ func Name(id string) bool {
 // Weight tells whether a backend may weigh so much.
 func Weight(w int) bool {
 	return within(w, 0, api.MaxWeight)
+}
+
+// Format tells whether images are written so.
+func Format(format int) bool {
+	return within(format, 1, 2)
+}
+
+// Generation tells whether a table may be of that generation.
+func Generation(gen int) bool {
+	return within(gen, 1, api.MaxGen)
 }
 
 func within(n int, least int, most int) bool {

@@ -3,6 +3,7 @@ package service
 
 import (
 	"spread/api"
+	"spread/codec"
 	"spread/pool"
 	"spread/rules"
 	"spread/table"
@@ -91,7 +92,15 @@ func (s *Service) Local(key string) (string, api.Errno) {
 }
 
 // Image tells the table as bytes (P8).
-func (s *Service) Image(format int) (string, api.Errno) { return "", api.OK }
+func (s *Service) Image(format int) (string, api.Errno) {
+	if !rules.Format(format) {
+		return "", api.ErrFormat
+	}
+	if s.gen == 0 {
+		return "", api.ErrNoTable
+	}
+	return codec.WriteImage(format, s.gen, s.table), api.OK
+}
 
 // Join makes a dataplane (P10).
 func (s *Service) Join(formats int) (int, api.Errno) { return 0, api.OK }
@@ -115,10 +124,22 @@ func (s *Service) Held(d int) (int, api.Errno) { return 0, api.OK }
 func (s *Service) Lookup(d int, key string) (string, api.Errno) { return "", api.OK }
 
 // Decode reads an image: the same table in both formats, and its generation (P8).
-func Decode(image string) (string, string, int, api.Errno) { return "", "", 0, api.OK }
+func Decode(image string) (string, string, int, api.Errno) {
+	m, ok := codec.ReadImage(image)
+	if !ok {
+		return "", "", 0, api.ErrImage
+	}
+	first := codec.WriteImage(1, m.Gen, m.Table)
+	second := codec.WriteImage(2, m.Gen, m.Table)
+	return first, second, m.Gen, api.OK
+}
 
 // Patch makes what turns one image's table into another's (P9).
-func Patch(a string, b string) (string, api.Errno) { return "", api.OK }
+func Patch(a string, b string) (string, api.Errno) {
+	return codec.Patch(a, b)
+}
 
 // Apply turns an image's table by a patch (P9).
-func Apply(patch string, image string) (string, api.Errno) { return "", api.OK }
+func Apply(patch string, image string) (string, api.Errno) {
+	return codec.Apply(patch, image)
+}

@@ -31,11 +31,11 @@ func Make(c api.Config, backends []api.Backend) Table {
 	case api.Maglev:
 		t.Entries = maglev(c, backends)
 	case api.Ring:
-		t.Entries = points(c.Key, 'r', c.Points, backends)
+		t.Entries = points(c.Key, 'r', each(c), backends)
 	case api.Rendezvous:
 		t.Entries = rendezvous(c, backends)
 	case api.Probes:
-		t.Entries = points(c.Key, 'm', 1, backends)
+		t.Entries = points(c.Key, 'm', each(c), backends)
 	}
 	return t
 }
