@@ -5,7 +5,7 @@ import "spread/api"
 
 // Config tells whether a configuration is one (P3).
 func Config(c api.Config) bool {
-	return TableConfig(c) && within(c.Formats, 1, 3)
+	return TableConfig(c) && Formats(c.Formats)
 }
 
 // TableConfig tells whether a configuration is one as far as tables hang on it: with any Formats.
@@ -25,6 +25,11 @@ func Name(id string) bool {
 // Weight tells whether a backend may weigh so much.
 func Weight(w int) bool {
 	return within(w, 0, api.MaxWeight)
+}
+
+// Formats tells whether one may speak these formats: the first, the second or both.
+func Formats(formats int) bool {
+	return within(formats, 1, 3)
 }
 
 // Format tells whether images are written so.

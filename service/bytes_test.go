@@ -44,6 +44,38 @@ func TestAnyBytes(t *testing.T) {
 	}
 }
 
+// No frame makes a call panic, or does more than the model says.
+func TestAnyFrames(t *testing.T) {
+	frames := roughBytes()
+	r := rand.New(rand.NewSource(8))
+	for _, begin := range []string{"Q", "A", "A\x00", "A\x01", "A\x02", question{1, 3, 2, 1, 1}.body(), piece{1, 1, 2, 1, "x"}.body(), piece{1 << 31, 255, 65535, 65534, "x"}.body()} {
+		for n := range 64 {
+			noise := make([]byte, n)
+			r.Read(noise)
+			frames = append(frames, sealed(begin+string(noise)), begin+string(noise), sealed(begin+strings.Repeat("\xff", n)), sealed(begin+strings.Repeat("\x00", n)))
+		}
+	}
+	for _, pool := range [][]api.Backend{nil, eight} {
+		for formats := 1; formats <= 3; formats++ {
+			c := spoken(api.Ring, 7, formats)
+			s := pooled(t, c, pool...)
+			var images [3]string
+			for format := 1; format <= 2; format++ {
+				images[format], _ = s.Image(format)
+			}
+			f, m := join(t, s, formats), modelPlane{formats: formats}
+			for _, frame := range frames {
+				if got, want := s.Serve(frame), modelServe(formats, len(pool), images, frame); got != want {
+					t.Errorf("P11: Serve(%.80x): %x, want %x", frame, got, want)
+				}
+				f.takes(frame)
+				m.receive(frame)
+				f.stands(fmt.Sprintf("behind %.80x", frame), m.question(), map[bool]api.Errno{true: api.ErrFormat}[m.told])
+			}
+		}
+	}
+}
+
 // Nothing that is made of bytes hangs on what was made before, and services know nothing of it.
 func TestBytesAreApart(t *testing.T) {
 	s := pooled(t, config(api.Ring, 7), backends("a b", 1, 2)...)

@@ -4,15 +4,18 @@ package service
 import (
 	"spread/api"
 	"spread/codec"
+	"spread/plane"
 	"spread/pool"
 	"spread/rules"
 	"spread/table"
+	"spread/wire"
 )
 
 // Service is a pool, its table, and the dataplanes that fetch it.
 type Service struct {
-	table table.Table // holds the configuration and the pool too
-	gen   int
+	table  table.Table // holds the configuration and the pool too
+	gen    int
+	planes []*plane.Plane
 }
 
 // New makes a service without backends (P3).
@@ -103,25 +106,85 @@ func (s *Service) Image(format int) (string, api.Errno) {
 }
 
 // Join makes a dataplane (P10).
-func (s *Service) Join(formats int) (int, api.Errno) { return 0, api.OK }
+func (s *Service) Join(formats int) (int, api.Errno) {
+	if !rules.Formats(formats) {
+		return -1, api.ErrConfig
+	}
+	if len(s.planes) >= api.MaxPlanes {
+		return -1, api.ErrFull
+	}
+	s.planes = append(s.planes, plane.New(formats))
+	return len(s.planes) - 1, api.OK
+}
+
+// dataplane finds one by its number; nil: there is none.
+func (s *Service) dataplane(d int) *plane.Plane {
+	if d < 0 || d >= len(s.planes) {
+		return nil
+	}
+	return s.planes[d]
+}
 
 // Tick tells a dataplane's next question (P11).
-func (s *Service) Tick(d int) (string, api.Errno) { return "", api.OK }
+func (s *Service) Tick(d int) (string, api.Errno) {
+	p := s.dataplane(d)
+	if p == nil {
+		return "", api.ErrUnknown
+	}
+	q := p.Question()
+	return wire.WriteQuestion(q), api.OK
+}
 
 // Serve answers a frame (P11).
-func (s *Service) Serve(frame string) string { return "" }
+func (s *Service) Serve(frame string) string {
+	q, ok := wire.ReadQuestion(frame)
+	if !ok {
+		return ""
+	}
+	a := s.answer(q)
+	return wire.WriteAnswer(a)
+}
 
 // Receive gives a dataplane a frame (P12).
-func (s *Service) Receive(d int, frame string) api.Errno { return api.OK }
+func (s *Service) Receive(d int, frame string) api.Errno {
+	p := s.dataplane(d)
+	if p == nil {
+		return api.ErrUnknown
+	}
+	a, ok := wire.ReadAnswer(frame)
+	if ok {
+		p.Take(a)
+	}
+	return api.OK
+}
 
 // Restart lets a dataplane begin anew (P12).
-func (s *Service) Restart(d int) api.Errno { return api.OK }
+func (s *Service) Restart(d int) api.Errno {
+	p := s.dataplane(d)
+	if p == nil {
+		return api.ErrUnknown
+	}
+	p.Restart()
+	return api.OK
+}
 
 // Held tells the generation that a dataplane holds (P12).
-func (s *Service) Held(d int) (int, api.Errno) { return 0, api.OK }
+func (s *Service) Held(d int) (int, api.Errno) {
+	p := s.dataplane(d)
+	if p == nil {
+		return 0, api.ErrUnknown
+	}
+	return p.Held()
+}
 
 // Lookup tells whose a key is at a dataplane (P12).
-func (s *Service) Lookup(d int, key string) (string, api.Errno) { return "", api.OK }
+func (s *Service) Lookup(d int, key string) (string, api.Errno) {
+	p := s.dataplane(d)
+	if p == nil {
+		return "", api.ErrUnknown
+	}
+	return p.Owner(key)
+}
 
 // Decode reads an image: the same table in both formats, and its generation (P8).
 func Decode(image string) (string, string, int, api.Errno) {

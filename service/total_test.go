@@ -13,6 +13,9 @@ var anyNumbers = []int{math.MinInt, -1 << 32, -257, -1, 0, 1, 2, 3, 4, 5, 6, 7, 
 
 var anyTexts = []string{"", "\x00", "a", "b", "\xff", "12345678", "123456789", "CH", "CP", "Q", "A\x01", strings.Repeat("\x00", 13), strings.Repeat("x", 100000)}
 
+// anyFrames are right ones besides.
+var anyFrames = append([]string{noNews, noFormat, question{1, 3, 2, 1, 1}.frame(), piece{1, 3, 2, 1, "x"}.frame(), piece{1<<32 - 1, 255, 65535, 65534, "x"}.frame()}, anyTexts...)
+
 func TestEveryNewEnds(t *testing.T) {
 	for _, n := range anyNumbers {
 		for _, key := range anyTexts {
@@ -44,7 +47,7 @@ func TestEveryCallEnds(t *testing.T) {
 }
 
 func callAll(s *service.Service) {
-	for _, text := range anyTexts {
+	for _, text := range anyFrames {
 		for _, n := range anyNumbers {
 			s.Add(text, n)
 			s.Set(text, n)
